@@ -2,6 +2,8 @@
 package darning
 
 import (
+	"strings"
+
 	"darning/api"
 	"darning/way"
 )
@@ -16,13 +18,48 @@ func Diff(old string, fresh string, context int) (api.Patch, api.Errno) {
 }
 
 // Write writes a patch (P4).
-func Write(p api.Patch) (string, api.Errno) { return "", api.OK }
+func Write(p api.Patch) (string, api.Errno) {
+	if !isRight(p) {
+		return "", api.ErrPatch
+	}
+	text, fits := written(p)
+	if !fits {
+		return "", api.ErrLarge
+	}
+	return text, api.OK
+}
 
-// Read reads a patch (P4).
-func Read(text string) (api.Patch, int, api.Errno) { return api.Patch{}, 0, api.OK }
+// Read reads a patch (P4); of one that is wrong it tells the line.
+func Read(text string) (api.Patch, int, api.Errno) {
+	if len(text) > api.MaxPatch {
+		return api.Patch{}, 0, api.ErrLarge
+	}
+	var r reader
+	at := 0
+	for ; text != ""; at++ {
+		line, behind, whole := strings.Cut(text, "\n")
+		if !whole || !r.line(line) {
+			return api.Patch{}, at, api.ErrPatch
+		}
+		text = behind
+	}
+	if !r.ended() {
+		return api.Patch{}, at, api.ErrPatch
+	}
+	return api.Patch{Hunks: r.hunks}, 0, api.OK
+}
 
 // Reverse turns a patch round (P5).
-func Reverse(p api.Patch) (api.Patch, api.Errno) { return api.Patch{}, api.OK }
+func Reverse(p api.Patch) (api.Patch, api.Errno) {
+	if !isRight(p) {
+		return api.Patch{}, api.ErrPatch
+	}
+	var hunks []api.Hunk
+	for _, h := range p.Hunks {
+		hunks = append(hunks, reversed(h))
+	}
+	return api.Patch{Hunks: hunks}, api.OK
+}
 
 // Apply sews a patch into a text (P6).
 func Apply(text string, p api.Patch, fuzz int) (string, []api.Seam, api.Errno) {
