@@ -63,7 +63,15 @@ func Reverse(p api.Patch) (api.Patch, api.Errno) {
 
 // Apply sews a patch into a text (P6).
 func Apply(text string, p api.Patch, fuzz int) (string, []api.Seam, api.Errno) {
-	return "", nil, api.OK
+	if e := checkApply(text, p, fuzz); e != api.OK {
+		return "", nil, e
+	}
+	s := sewing{lines: linesOf(text)}
+	var seams []api.Seam
+	for _, h := range p.Hunks {
+		seams = append(seams, s.sew(h, fuzz))
+	}
+	return s.text(), seams, api.OK
 }
 
 // Inline tells by letters what has changed (P3).
